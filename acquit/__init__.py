@@ -1,0 +1,1 @@
+"""Acquit: a card payment network that neither makes nor loses money."""
