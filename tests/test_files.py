@@ -292,7 +292,7 @@ class FiledTest(unittest.TestCase):
 
     def test_files_are_confirmed_each_by_itself(self):
         net = network()
-        one, other = granted(net, (0, 0), 100), None
+        one = granted(net, (0, 0), 100)
         net.close(0)
         other = granted_alone(net, (1, 0), 200)
         net.close(0)
